@@ -1,0 +1,1 @@
+"""Portage: objects that are carried between machines in the midst of their calls."""
