@@ -58,11 +58,11 @@ class ProgramReader:
         while self.tokens.goes_on(len(kinds)):
             kinds.append(self.phrases.kind())
         self.tokens.close(")")
-        result = self.result()
+        result = self.result_kind()
         self.tokens.take(";")
         return name, tuple(kinds), result
 
-    def result(self):
+    def result_kind(self):
         """Reads the colon and the kind of an operation's result."""
         self.tokens.take(":")
         return self.phrases.kind()
@@ -118,5 +118,5 @@ class ProgramReader:
         while self.tokens.goes_on(len(params)):
             params.append(self.phrases.named_kind())
         self.tokens.close(")")
-        result = self.result()
+        result = self.result_kind()
         return name, tuple(params), result, self.phrases.block()

@@ -45,7 +45,7 @@ EXPRESSIONS = {
 
 def is_name(text):
     """Says whether a text is a name."""
-    if not 1 <= len(text) <= MAX_NAME or text in WORDS:
+    if len(text) > MAX_NAME or text in WORDS:
         return False
     return text.isascii() and text.isalnum() and text[0].isalpha()
 

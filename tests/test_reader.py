@@ -25,7 +25,7 @@ class Reading(unittest.TestCase):
 
     def bad_start(self, text):
         """The text within a start block has its bad token on its second line."""
-        self.bad("start { " + text + " }", 2)
+        self.bad("start { " + text + (" }" if text.endswith("\n") else "\n}"), 2)
 
     def bad_expression(self, text, line=1):
         with self.assertRaises(BadForm, msg=text) as caught:
@@ -123,7 +123,7 @@ class Expressions(Reading):
         for text in ("", "a b", "a +", "+ a", "- 1", "(a", "a)", "()", "a.", "a.f", "a.f(", "a.f(a,", "a.f(a,)",
                      "a.f(,a)", "a.1()", "a.if()", "new", "new M", "new if()", "new int()", "new 1()", "int", "if",
                      "let", "a..f()", "a = b", "a; b", "{a}", "a!", "a & b", "a / b", "'a'", "a > b", "a >= b",
-                     "a\tb", "_a", "abcdefghijklm", "a,b"):
+                     "a\tb", "\u00e9", "\u00b2", "_a", "abcdefghijklm", "a,b"):
             self.bad_expression(text)
 
     def test_line_of_the_first_bad_token(self):
@@ -156,11 +156,11 @@ class AroundAPart(Reading):
         self.bad_expression("(" * 100 + "\n(a)" + ")" * 100, 2)
         with self.assertRaises(TooLarge):
             read_expression("not " * 100 + "a")
-        self.bad_expression("not " * 100 + "\nnot a", 2)
-        self.bad_expression("not " * 100 + "\n(a)", 2)
-        self.bad_expression("(not " * 50 + "\n(a)", 2)
-        self.bad_expression("(" * 100 + "a.f\n()", 2)
-        self.bad_expression("(" * 100 + "new A\n()", 2)
+        self.bad_expression("not " * 100 + "\nnot a\n", 2)
+        self.bad_expression("not " * 100 + "\n(a)\n", 2)
+        self.bad_expression("(not " * 50 + "\n(a)\n", 2)
+        self.bad_expression("(" * 100 + "a.f\n()\n", 2)
+        self.bad_expression("(" * 100 + "new A\n()\n", 2)
 
     def test_blocks_count(self):
         self.assertEqual(read_program("start { return " + "(" * 99 + "a" + ")" * 99 + "; }"), ((), (), (("return", A),)))
@@ -168,7 +168,7 @@ class AroundAPart(Reading):
         with self.assertRaises(TooLarge):
             read_program("start {" + "while 1 {" * 99 + "}" * 100)
         self.bad("start {" + "while 1 {" * 99 + "while 1\n{" + "}" * 101, 2)
-        self.bad("maker M() { op f(): int { return " + "(" * 98 + "\n(a", 2)
+        self.bad("maker M() { op f(): int { return " + "(" * 98 + "\n(a\n", 2)
 
     def test_only_what_is_around_counts(self):
         row = " + ".join(["(a)"] * 150)
@@ -179,7 +179,10 @@ class AroundAPart(Reading):
         with self.assertRaises(TooLarge):
             read_expression(" and ".join(["not a"] * 300))
         self.expression("not a and " + "(" * 100 + "b" + ")" * 100, ("and", ("not", A), B))
-        self.bad_expression("not a < " + "(" * 99 + "\n(b)", 2)
+        self.bad_expression("not a < " + "(" * 99 + "\n(b)\n", 2)
+        self.bad_expression("(a) + b.f((a), (b)) + " + "(" * 100 + "\n(b)\n", 2)
+        self.bad_expression("not a and not not a and " + "(" * 100 + "\n(b)\n", 2)
+        self.bad("start { if a { } else { } " + "(" * 99 + "\n(b\n", 2)
         self.expression("f.g() + " + "(" * 100 + "b" + ")" * 100, ("add", ("call", ("name", "f"), "g", ()), B))
         self.assertEqual(read_program("start { " + "if a { } " * 200 + "}"), ((), (), (("if", A, (), ()),) * 200))
 
@@ -338,7 +341,7 @@ class Programs(Reading):
                      "maker M() { op f(\nattached", "maker M() { op f(): int\n;", "maker M() { op f()\n{", "maker M() { op f(a\n)",
                      "maker M() { op\n(", "maker M() { op f(): int { }\n;", "maker M() { attached \nop", "maker \nM1234567890123",
                      "interface \nabcdefghijklm", "maker M(\nstart"):
-            self.bad(text, 2)
+            self.bad(text + "\n", 2)
 
     def test_lines(self):
         self.bad("start {\n  print 1;\n  print ;\n}\n", 3)
