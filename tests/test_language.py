@@ -102,9 +102,17 @@ class Forms(unittest.TestCase):
 
     def test_statements(self):
         barred = (ast.Global, ast.Import, ast.Lambda, ast.AsyncFunctionDef, ast.Yield, ast.YieldFrom, ast.GeneratorExp,
-                  ast.Set, ast.Try, ast.With, ast.Div, ast.Starred, ast.AnnAssign)
+                  ast.Set, ast.With, ast.Div, ast.Starred, ast.AnnAssign)
         for path, node in walk(barred):
             self.fail(f"{path} uses {node} in line {getattr(node, 'lineno', 0)}")
+
+    def test_handlers(self):
+        errors = defined(ast.parse((ROOT / "errors.py").read_text()))
+        for path, node in walk(ast.Try):
+            self.assertEqual(node.finalbody, [], path)
+            for handler in node.handlers:
+                self.assertIsInstance(handler.type, ast.Name, path)
+                self.assertIn(handler.type.id, errors, path)
 
     def test_imports(self):
         files = {path.stem: ast.parse(path.read_text()) for path in FILES}
