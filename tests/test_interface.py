@@ -12,9 +12,24 @@ FUNCTIONS = {
     "checks": {"check_program": 1, "returns": 1},
     "code": {"is_instruction": 1, "need": 1, "effect": 1, "heights": 3},
     "compiler": {"compiled_block": 2, "local_names": 2, "compile_program": 1, "row_of": 3, "maker_of": 2},
+    "plain": {"begin": 1, "ready": 1, "step": 3, "run": 3, "finish": 3},
+    "micro": {"first_frame": 4, "first_fields": 3, "pushed": 2, "micro": 5},
+    "trim": {"references": 1, "reached": 1, "trim": 1},
+    "bundles": {"is_bundle": 1, "bundle_text": 1, "read_bundle": 1},
+    "letters": {"is_working": 1, "is_on_the_way": 1, "object_of": 1, "count_of": 1, "with_count": 2},
+    "finding": {"home_of": 2},
+    "moves": {"goes_with": 3, "lifted": 1},
+}
+# How many arguments the class and its methods take, themselves not counted.
+METHODS = {
+    ("post", "Post"): (1, {"give": 2, "take": 1, "is_taken": 2, "taken": 1, "next_number": 1, "outbox": 0, "answers": 0,
+                           "image": 0, "copy": 0}),
+    ("finding", "Finder"): (2, {"hear": 3, "mark": 1, "forget": 1, "way": 3, "park": 1, "unpark": 1, "parked": 0, "image": 0,
+                                "copy": 0}),
 }
 CLASSES = {"errors": ("PortError", "NotAllowed", "TooLarge", "Missing", "BadForm", "BadKind")}
-CONSTANTS = {"trees": ("MAX_NUMBER", "MAX_PARTS", "MAX_NODES", "MAX_DEPTH", "WORDS"), "code": ("PLAIN",)}
+CONSTANTS = {"trees": ("MAX_NUMBER", "MAX_PARTS", "MAX_NODES", "MAX_DEPTH", "WORDS"), "code": ("PLAIN",),
+             "letters": ("WORKING", "ON_THE_WAY")}
 
 
 class Interface(unittest.TestCase):
@@ -33,6 +48,15 @@ class Interface(unittest.TestCase):
             for one in classes:
                 self.assertTrue(inspect.isclass(getattr(module, one)))
                 self.assertEqual(getattr(module, one).__module__, module.__name__)
+
+    def test_methods(self):
+        for (name, one), (many, methods) in METHODS.items():
+            found = getattr(importlib.import_module(f"portage.{name}"), one)
+            self.assertEqual(found.__module__, f"portage.{name}")
+            self.assertEqual(len(inspect.signature(found).parameters), many, one)
+            for method, arguments in methods.items():
+                self.assertTrue(inspect.isfunction(vars(found)[method]))
+                self.assertEqual(len(inspect.signature(vars(found)[method]).parameters), arguments + 1, (one, method))
 
     def test_constants(self):
         for name, constants in CONSTANTS.items():
