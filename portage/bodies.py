@@ -11,7 +11,7 @@ class Body:
     def __init__(self, fitting, place, me, result):
         self.fitting = fitting
         self.place = place
-        self.me = me
+        self.own_kind = me
         self.result = result
 
     def must(self, holds):
@@ -58,7 +58,7 @@ class Body:
         if word == "nil":
             return EMPTY
         if word == "self":
-            return self.me
+            return self.own_kind
         if word == "name":
             self.must(expression[1] in known)
             return known[expression[1]]

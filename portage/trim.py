@@ -8,17 +8,24 @@ def references(values):
     return sorted({value[1] for value in values if is_reference(value)})
 
 
-def reached(state):
-    """Returns the ascending list of the names of the reached objects."""
-    fields = {name: values for name, _, values in state[0]}
+def led_to(names, leads):
+    """Returns the ascending list of what is among these names, or is led to from there.
+
+    `leads` is a dict that says of each name to which ones it leads; names that it does not have are left out.
+    """
     found = {}
-    pending = _held_by_frames(state[1])
+    pending = list(names)
     while len(pending) > 0:
         name = pending.pop()
-        if name in fields and name not in found:
+        if name in leads and name not in found:
             found[name] = True
-            pending.extend(references(fields[name]))
+            pending.extend(leads[name])
     return sorted(found)
+
+
+def reached(state):
+    """Returns the ascending list of the names of the reached objects."""
+    return led_to(_held_by_frames(state[1]), {name: references(fields) for name, _, fields in state[0]})
 
 
 def trim(state):
