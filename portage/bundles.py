@@ -1,7 +1,9 @@
 """Bundles: objects with the frames that belong to them, ready to be carried; their form and their texts."""
 
+from portage.digits import number_in
 from portage.errors import BadForm, NotAllowed
-from portage.texts import number_in, object_in, object_text, process_in, process_text, value_in, value_text
+from portage.names import object_in, object_text, process_in, process_text
+from portage.texts import value_in, value_text
 from portage.trees import is_name
 from portage.values import is_natural, is_object_name, is_process_name, is_row, is_value
 

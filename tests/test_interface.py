@@ -19,6 +19,12 @@ FUNCTIONS = {
     "letters": {"is_working": 1, "is_on_the_way": 1, "object_of": 1, "count_of": 1, "with_count": 2},
     "finding": {"home_of": 2},
     "moves": {"goes_with": 3, "lifted": 1},
+    "picture": {"under_way": 1, "picture": 1, "look": 1, "replayed": 1},
+    "gather": {"report": 1, "agree": 1, "unheld": 1, "start_round": 1, "control": 3},
+    "settle": {"is_quiet": 1, "settle": 2, "balance": 1},
+    "names": {"process_text": 1, "object_text": 1, "read_process": 1, "read_object": 1},
+    "lines": {"read_command": 1},
+    "desk": {"run_script": 1},
 }
 # How many arguments the class and its methods take, themselves not counted.
 METHODS = {
@@ -26,10 +32,16 @@ METHODS = {
                            "image": 0, "copy": 0}),
     ("finding", "Finder"): (2, {"hear": 3, "mark": 1, "forget": 1, "way": 3, "park": 1, "unpark": 1, "parked": 0, "image": 0,
                                 "copy": 0}),
+    ("place", "Place"): (3, {"put": 1, "bundles": 0, "ended": 0, "parked": 0, "outbox": 0, "has_taken": 2, "ready": 0, "me": 0,
+                             "places": 0, "stopped": 0, "stop": 1, "notes": 0, "note": 1, "work": 1, "arrive": 1, "take": 1,
+                             "give": 2, "announce": 3, "again": 1, "carry": 2, "drop": 1, "given": 1, "taken": 1, "burst": 0,
+                             "prints": 0, "settle": 0, "answers": 0, "state": 0, "copy": 0}),
+    ("world", "World"): (2, {"do": 1, "play": 1, "can": 1, "present": 1, "kept": 1, "places": 0, "image": 0, "air": 0, "order": 0,
+                             "prints": 0, "copy": 0}),
 }
 CLASSES = {"errors": ("PortError", "NotAllowed", "TooLarge", "Missing", "BadForm", "BadKind")}
 CONSTANTS = {"trees": ("MAX_NUMBER", "MAX_PARTS", "MAX_NODES", "MAX_DEPTH", "WORDS"), "code": ("PLAIN",),
-             "letters": ("WORKING", "ON_THE_WAY")}
+             "letters": ("WORKING", "ON_THE_WAY"), "world": ("MAX_PLACES",), "settle": ("MAX_BURST", "MAX_ROUNDS")}
 
 
 class Interface(unittest.TestCase):
